@@ -48,7 +48,7 @@ def give_cabin(ship, p, k):
     if not ship.does(p, k):
         return DOES_NOT_DO
     party.cabin = k
-    return 1 if ship.cabins[k].rank > party.rank else 0
+    return 1 if ship.is_better(p) else 0
 
 
 def leave_ship(ship, p):

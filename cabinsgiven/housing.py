@@ -62,14 +62,19 @@ def wish_of(ship, p, cabins):
     return [k for k in cabins if ship.does(p, k)]
 
 
-def waiting_wishes(ship):
+def wishes_of(ship, parties):
     cabins = frugal_order(ship, ship.free_cabins())
-    return [wish_of(ship, p, cabins) for p in ship.waiting_parties()]
+    return [wish_of(ship, p, cabins) for p in parties]
+
+
+def most_of(ship, parties):
+    return most_housed(wishes_of(ship, parties))
 
 
 def plan_of(ship):
+    waiting = ship.waiting_parties()
     plan = {}
-    for p, cabin in zip(ship.waiting_parties(), planned_cabins(waiting_wishes(ship))):
+    for p, cabin in zip(waiting, planned_cabins(wishes_of(ship, waiting))):
         if cabin is not None:
             plan[p] = cabin
     return plan

@@ -38,14 +38,28 @@ class Ship:
                 return True
         return False
 
+    def is_beside(self, k, other):
+        one = self.cabins[k]
+        two = self.cabins[other]
+        return one.deck == two.deck and abs(one.place - two.place) == 1
+
+    def holder_of(self, k):
+        for p in range(len(self.parties)):
+            if self.parties[p].cabin == k:
+                return p
+        return None
+
     def is_free(self, k):
-        for party in self.parties:
-            if party.cabin == k:
-                return False
-        return True
+        return self.holder_of(k) is None
+
+    def all_cabins(self):
+        return list(range(len(self.cabins)))
+
+    def free_among(self, cabins):
+        return [k for k in cabins if self.is_free(k)]
 
     def free_cabins(self):
-        return [k for k in range(len(self.cabins)) if self.is_free(k)]
+        return self.free_among(self.all_cabins())
 
     def waits(self, p):
         return self.has_party(p) and self.parties[p].cabin is None
@@ -53,9 +67,36 @@ class Ship:
     def waiting_parties(self):
         return [p for p in range(len(self.parties)) if self.waits(p)]
 
+    def housed_parties(self):
+        return [p for p in range(len(self.parties)) if self.parties[p].cabin is not None]
+
+    def is_better(self, p):
+        party = self.parties[p]
+        return self.cabins[party.cabin].rank > party.rank
+
     def does(self, p, k):
         party = self.parties[p]
         cabin = self.cabins[k]
         if cabin.out == 1 or cabin.berths < party.many or cabin.rank < party.rank:
             return False
         return cabin.flat == 1 or party.flat == 0
+
+
+def copy_of_cabin(cabin):
+    other = Cabin(cabin.deck, cabin.place, cabin.rank, cabin.berths, cabin.flat)
+    other.out = cabin.out
+    return other
+
+
+def copy_of_party(party):
+    other = Party(party.many, party.rank, party.flat)
+    other.cabin = party.cabin
+    other.gone = party.gone
+    return other
+
+
+def copy_of_ship(ship):
+    other = Ship()
+    other.cabins = [copy_of_cabin(cabin) for cabin in ship.cabins]
+    other.parties = [copy_of_party(party) for party in ship.parties]
+    return other

@@ -24,6 +24,7 @@ NOT_NAMES = """register mro elements open input version_info with_traceback add_
 copyright credits delattr dir eval exec exit gc getattr globals hasattr help id importlib license locals methodcaller os
 quit setattr super type vars sys""".split()
 WALKED = ("range", "zip", "enumerate", "reversed", "items", "keys", "values")
+WALKERS = ("list", "tuple", "dict", "sorted", "sum", "any", "all", "enumerate", "zip")
 
 
 def walk(tree, kind):
@@ -184,6 +185,9 @@ class Language(unittest.TestCase):
     def test_walked_on_the_spot(self):
         for path, text, tree in self.each():
             walked = [node.iter for node in walk(tree, (ast.For, ast.comprehension))]
+            for node in walk(tree, ast.Call):
+                if isinstance(node.func, ast.Name) and node.func.id in WALKERS:
+                    walked += node.args[:1]
             for node in walk(tree, ast.Call):
                 name = node.func.id if isinstance(node.func, ast.Name) else node.func.attr
                 if name in WALKED:

@@ -1,115 +1,44 @@
-"""Point 5 and what holds: cg_does, cg_most, cg_plan, beside a plain search through all ways."""
+"""Point 5 and what holds: cg_does, cg_most, cg_plan, cg_would, beside a plain search through all ways."""
 
 import itertools
 import random
 import unittest
 
 from cabinsgiven.purser import answers
-from tests.helper import MOST, PLAN, START, TAKE
-from tests.helper import cabin, does, flatten, give, last, leave, party, shut, split, told
-
-
-class Ship:
-    """What a test knows of a ship: the calls that made it, and what stands behind them.
-
-    A cabin is its class, its berths, 1 if it is without steps; a party its persons, its class, 1 if it needs that.
-    """
-
-    def __init__(self, cabins, parties):
-        self.calls = [cabin(k % 3, k, *cabins[k]) for k in range(len(cabins))]
-        self.calls += [party(*who) for who in parties]
-        self.cabins = cabins
-        self.parties = parties
-        self.out = [False] * len(cabins)
-        self.gone = [False] * len(parties)
-        self.has = [None] * len(parties)
-
-    def stir(self, source, times):
-        """Some give, leave and shut; whether they were refused is taken from their answers."""
-        for time in range(times):
-            p = source.randrange(max(1, len(self.parties)))
-            k = source.randrange(max(1, len(self.cabins)))
-            kind = source.choice((give(p, k), give(p, k), leave(p), shut(k, 1), shut(k, 0)))
-            self.calls.append(kind)
-            if last(self.calls)[0] < 0:
-                continue
-            if kind[0] == 3:
-                self.has[p] = k
-            elif kind[0] == 4:
-                self.gone[p] = True
-                self.has[p] = None
-            else:
-                self.out[k] = kind[2] == 1
-
-    def waiting(self):
-        return [p for p in range(len(self.parties)) if not self.gone[p] and self.has[p] is None]
-
-    def free(self):
-        return [k for k in range(len(self.cabins)) if k not in self.has]
-
-    def does(self, p, k):
-        rank, berths, flat = self.cabins[k]
-        many, paid, needs_flat = self.parties[p]
-        return not self.out[k] and berths >= many and rank >= paid and (flat == 1 or needs_flat == 0)
-
-    def liking(self, k):
-        rank, berths, flat = self.cabins[k]
-        return (rank, berths, k)
+from tests.helper import AGAIN, BACK, LARGEST, MOST, PLAN, START, TAKE, Plain
+from tests.helper import cabin, check_refused, does, flatten, give, housed, last, leave, most_of, party, plan_answer, shut
+from tests.helper import split, told, would
 
 
 def all_ways(ship, waiting):
-    """Every way to house those who wait: for each the cabin it has, or None."""
-    choices = [[None] + [k for k in ship.free() if ship.does(p, k)] for p in waiting]
-    for way in itertools.product(*choices):
+    """Every way to house these: for each the cabin it has, or None."""
+    for way in itertools.product(*[[None] + ship.fitting(p, ship.free()) for p in waiting]):
         used = [k for k in way if k is not None]
         if len(used) == len(set(used)):
             yield way
 
 
-def housed(way):
-    return len([k for k in way if k is not None])
-
-
-class Search:
-    """The most there can be, by trying every cabin and none for each party; what was found once is remembered."""
-
-    def __init__(self, ship, waiting):
-        self.ship = ship
-        self.waiting = waiting
-        self.found = {}
-
-    def most(self, at, left):
-        if at == len(self.waiting):
-            return 0
-        if (at, left) not in self.found:
-            ways = [self.most(at + 1, left)]
-            ways += [1 + self.most(at + 1, left - {k}) for k in left if self.ship.does(self.waiting[at], k)]
-            self.found[(at, left)] = max(ways)
-        return self.found[(at, left)]
-
-    def plan(self):
-        """The document's words, one by one."""
-        left = frozenset(self.ship.free())
-        way = []
-        for at, p in enumerate(self.waiting):
-            most = self.most(at, left)
-            fit = [k for k in left if self.ship.does(p, k) and 1 + self.most(at + 1, left - {k}) == most]
-            way.append(min(fit, key=self.ship.liking) if fit else None)
-            left = left - {way[-1]}
-        return way
-
-
-def plan_answer(waiting, way):
-    cabins = [0] * 8
-    for p, k in zip(waiting, way):
-        cabins[p] = 0 if k is None else k + 1
-    return [housed(way)] + cabins
+def ship_of(cabins, parties):
+    """A cabin is its class, its berths, 1 if it is without steps; a party its persons, its class, 1 if it needs that."""
+    ship = Plain()
+    for k in range(len(cabins)):
+        ship.answer(cabin(k % 3, k, *cabins[k]))
+    for who in parties:
+        ship.answer(party(*who))
+    return ship
 
 
 def some_ship(source, cabins, parties, fuss):
     """The greater the fuss, the more the cabins and what the parties ask for differ."""
-    return Ship([(source.randint(0, fuss), source.randint(1, 2 * fuss), source.randint(0, 1)) for k in range(cabins)],
-                [(source.randint(1, 2 * fuss), source.randint(0, fuss), source.randint(0, 1)) for p in range(parties)])
+    return ship_of([(source.randint(0, fuss), source.randint(1, 2 * fuss), source.randint(0, 1)) for k in range(cabins)],
+                   [(source.randint(1, 2 * fuss), source.randint(0, fuss), source.randint(0, 1)) for p in range(parties)])
+
+
+def stir(ship, source, times):
+    for time in range(times):
+        p = source.randrange(max(1, len(ship.parties)))
+        k = source.randrange(max(1, len(ship.cabins)))
+        ship.answer(source.choice((give(p, k), give(p, k), leave(p), shut(k, 1), shut(k, 0))))
 
 
 def ships(seed, times, most_cabins, most_parties, fewest=0, stirs=6):
@@ -117,7 +46,7 @@ def ships(seed, times, most_cabins, most_parties, fewest=0, stirs=6):
     for time in range(times):
         ship = some_ship(source, source.randint(fewest, most_cabins), source.randint(fewest, most_parties),
                          source.randint(1, 3))
-        ship.stir(source, source.randint(0, stirs))
+        stir(ship, source, source.randint(0, stirs))
         yield ship
 
 
@@ -141,10 +70,9 @@ class Does(unittest.TestCase):
 
     def test_every_party_and_cabin_of_many_ships(self):
         for ship in ships(1, 200, 12, 8):
-            pairs = [(p, k) for p in range(len(ship.parties)) for k in range(len(ship.cabins)) if not ship.gone[p]]
+            pairs = [(p, k) for p in range(8) for k in range(12) if ship.there(p) and k < len(ship.cabins)]
             found = told(ship.calls + [does(p, k) for p, k in pairs])[len(ship.calls):]
-            free = ship.free()
-            self.assertEqual(found, [[int(ship.does(p, k)), int(k in free)] for p, k in pairs])
+            self.assertEqual(found, [[int(ship.fits(p, k)), int(k in ship.free())] for p, k in pairs])
 
 
 class Most(unittest.TestCase):
@@ -212,7 +140,7 @@ class Plan(unittest.TestCase):
 class BesideASearch(unittest.TestCase):
     def check(self, ship, waiting, way):
         """Most, plan and take behind the ship's calls, then what the leaving tells of each party's cabin."""
-        there = [p for p in range(len(ship.parties)) if not ship.gone[p]]
+        there = [p for p in range(8) if ship.there(p)]
         found = told(ship.calls + [MOST, PLAN, TAKE, MOST, PLAN] + [leave(p) for p in there])[len(ship.calls):]
         free = len(ship.free())
         self.assertEqual(found[0], [housed(way), len(waiting), free])
@@ -220,7 +148,7 @@ class BesideASearch(unittest.TestCase):
         self.assertEqual(found[2], [housed(way) if waiting else -6])
         self.assertEqual(found[3], [0, len(waiting) - housed(way), free - housed(way)])
         self.assertEqual(found[4], [0] * 9)
-        has = list(ship.has)
+        has = ship.has()
         for p, k in zip(waiting, way):
             has[p] = k
         self.assertEqual(found[5:], [[0 if has[p] is None else has[p] + 1] for p in there])
@@ -237,16 +165,80 @@ class BesideASearch(unittest.TestCase):
 
     def test_ships_of_every_size(self):
         for ship in ships(3, 1500, 12, 8):
-            waiting = ship.waiting()
-            self.check(ship, waiting, Search(ship, waiting).plan())
+            self.check(ship, ship.waiting(), ship.way())
 
     def test_ships_of_eight_parties(self):
         for ship in ships(4, 500, 12, 8, fewest=8, stirs=1):
-            waiting = ship.waiting()
-            search = Search(ship, waiting)
-            way = search.plan()
-            self.assertEqual(housed(way), search.most(0, frozenset(ship.free())))
-            self.check(ship, waiting, way)
+            self.assertEqual(housed(ship.way()), most_of(ship.wishes(ship.waiting())))
+            self.check(ship, ship.waiting(), ship.way())
+
+
+class Would(unittest.TestCase):
+    def test_one_more_or_none(self):
+        calls = [cabin(0, 0), party(), would(0), party(), would(0), would(1), cabin(0, 1), would(0), would(1)]
+        self.assertEqual(told(calls), [[0], [0], [1], [1], [0], [0], [1], [1], [1]])
+
+    def test_no_cabin_does_for_it(self):
+        for calls in ([party()], [cabin(0, 0, 0, 1), party(2)], [cabin(0, 0, 1), party(1, 2)],
+                      [cabin(0, 0, flat=0), party(1, 0, 1)], [cabin(0, 0), party(), shut(0, 1)]):
+            with self.subTest(calls=calls):
+                self.assertEqual(last(calls + [would(0)]), [0])
+
+    def test_others_may_give_way_to_it(self):
+        calls = [cabin(0, 0, 0, 1), cabin(0, 1, 0, 2), cabin(0, 2, 0, 3), party(1), party(1), party(3)]
+        self.assertEqual(told(calls + [would(0), would(1), would(2)])[-3:], [[1], [1], [1]])
+
+    def test_of_three_for_two_cabins_only_who_asks_for_the_other_one_counts(self):
+        calls = [cabin(0, 0, 3), cabin(0, 1, 0), party(1, 3), party(1, 3), party(1, 0)]
+        self.assertEqual(told(calls + [would(0), would(1), would(2)])[-3:], [[0], [0], [1]])
+
+    def test_only_those_who_wait_and_what_is_free(self):
+        calls = [cabin(0, 0), cabin(0, 1), party(), party(), party(), would(2), give(0, 0), would(2), leave(1), would(2)]
+        self.assertEqual(told(calls)[5:], [[0], [0], [0], [0], [1]])
+
+    def test_the_eighth_party(self):
+        calls = [cabin(0, k) for k in range(12)] + [party() for p in range(8)]
+        self.assertEqual(last(calls + [would(7)]), [1])
+        self.assertEqual(last(calls[5:] + [would(7)]), [0])
+
+    def test_the_party_has_one(self):
+        check_refused(self, [cabin(0, 0), party(), give(0, 0)], would(0), -17)
+        check_refused(self, [cabin(0, 0), party(), TAKE], would(0), -17)
+
+    def test_no_such_party_or_one_that_is_gone(self):
+        for p in (1, 2, 3, 8, LARGEST):
+            with self.subTest(p=p):
+                check_refused(self, [cabin(0, 0), party(), party(), give(1, 0), leave(1)], would(p), -2)
+
+    def test_asking_changes_nothing(self):
+        calls = [cabin(0, 0), party(), party(), BACK, would(0), would(0)]
+        self.assertEqual(told(calls + [MOST, AGAIN, MOST])[4:], [[1], [1], [1, 1, 1], [0], [1, 2, 1]])
+
+    def check(self, ship, most):
+        """Of each party that waits, beside the most of all who wait and of all but it."""
+        waiting = ship.waiting()
+        found = told(ship.calls + [would(p) for p in waiting])[len(ship.calls):]
+        due = [most(ship, waiting) - most(ship, [q for q in waiting if q != p]) for p in waiting]
+        self.assertEqual(found, [[number] for number in due])
+        return due
+
+    def test_all_ways_one_by_one_on_small_ships(self):
+        due = []
+        for ship in ships(6, 600, 6, 4):
+            due += self.check(ship, lambda ship, some: max(housed(way) for way in all_ways(ship, some)))
+        self.assertEqual(set(due), {0, 1})
+
+    def test_ships_of_every_size(self):
+        due = []
+        for ship in ships(7, 1000, 12, 8):
+            due += self.check(ship, lambda ship, some: most_of(ship.wishes(some)))
+        self.assertEqual(set(due), {0, 1})
+
+    def test_ships_of_eight_parties(self):
+        due = []
+        for ship in ships(8, 300, 12, 8, fewest=8, stirs=8):
+            due += self.check(ship, lambda ship, some: most_of(ship.wishes(some)))
+        self.assertEqual(set(due), {0, 1})
 
 
 class Long(unittest.TestCase):
@@ -257,16 +249,10 @@ class Long(unittest.TestCase):
         due = []
         while len(calls) + 28 <= 1000:
             ship = some_ship(source, 12, 8, 2)
-            way = Search(ship, list(range(8))).plan()
-            calls += [START] + ship.calls + [MOST, PLAN, TAKE, MOST, PLAN, leave(0), MOST]
-            gone = 0 if way[0] is None else 1
-            rest = Search(ship, [p for p in range(1, 8) if way[p] is None])
-            free = [k for k in range(12) if k not in way]
-            left = frozenset(free + way[:1]) - {None}
-            due += [[0]] + [[k] for k in range(12)] + [[p] for p in range(8)]
-            due += [[housed(way), 8, 12], plan_answer(range(8), way), [housed(way)], [0, 8 - housed(way), len(free)],
-                    [0] * 9, [way[0] + 1 if gone else 0],
-                    [rest.most(0, left), len(rest.waiting), len(free) + gone]]
+            for call in (MOST, PLAN, TAKE, MOST, PLAN, leave(0), MOST):
+                ship.answer(call)
+            calls += [START] + ship.calls
+            due += [[0]] + ship.due
         due += [[0]] * (1000 - len(calls))
         return calls + [START] * (1000 - len(calls)), due
 
@@ -276,13 +262,12 @@ class Long(unittest.TestCase):
         self.assertEqual(split(answers(flatten(calls))), due)
 
     def test_a_thousand_calls_over_one_ship(self):
-        ship = Ship([(k % 3, 1 + k % 5, k % 2) for k in range(12)],
-                    [(1 + p % 4, p % 3, p % 2) for p in range(7)] + [(6, 3, 1)])
+        ship = ship_of([(k % 3, 1 + k % 5, k % 2) for k in range(12)],
+                       [(1 + p % 4, p % 3, p % 2) for p in range(7)] + [(6, 3, 1)])
         calls = [START] + ship.calls + [MOST, PLAN] * 244 + [TAKE] + [MOST, PLAN] * 245
         self.assertEqual(len(calls), 1000)
-        way = Search(ship, list(range(8))).plan()
-        count = housed(way)
-        due = [[count, 8, 12], plan_answer(range(8), way)] * 244 + [[count]]
+        count = housed(ship.way())
+        due = [[count, 8, 12], plan_answer(range(8), ship.way())] * 244 + [[count]]
         due += [[0, 8 - count, 12 - count], [0] * 9] * 245
         self.assertEqual(split(answers(flatten(calls)))[21:], due)
 
